@@ -1,10 +1,13 @@
 package eval
 
-import "splicery/api"
+import (
+	"splicery/api"
+	"splicery/steps"
+)
 
 // Most returns an upper bound of the steps of a call of the definition with an ID; -1, if there is none.
 func Most(p api.Prog, id api.ID) int {
-	defs, known := index(p), map[api.ID]int{}
+	defs, known := steps.Defs(p), map[api.ID]int{}
 	unbounded := false
 	var body func(id api.ID) int
 	var node func(e *api.Expr) int
@@ -14,7 +17,7 @@ func Most(p api.Prog, id api.ID) int {
 			return n
 		}
 		d := defs[id]
-		if begun || !hasBody(d) { // if it is begun, it calls itself
+		if begun || d == nil || !steps.HasBody(d) { // if it is begun, it calls itself
 			unbounded = true
 			return 0
 		}
@@ -29,19 +32,19 @@ func Most(p api.Prog, id api.ID) int {
 		if unbounded {
 			return 0
 		}
-		steps, branch := 1, 0
+		sum, branch := 1, 0
 		for i := range e.Kids {
 			n := node(&e.Kids[i])
 			if i > 0 && (e.Kind == api.NIf || e.Kind == api.NMatch) {
 				branch = max(branch, n)
 			} else {
-				steps = total(steps, n)
+				sum = total(sum, n)
 			}
 		}
 		if e.Kind == api.NCall {
-			steps = total(steps, body(e.Ref))
+			sum = total(sum, body(e.Ref))
 		}
-		return total(steps, branch)
+		return total(sum, branch)
 	}
 	if n := body(id); !unbounded {
 		return n

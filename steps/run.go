@@ -1,4 +1,4 @@
-package eval
+package steps
 
 import (
 	"slices"
@@ -10,6 +10,7 @@ import (
 // run is an evaluation. It has a stack of its own and no recursion, since calls add up the levels of many bodies. As long as it lasts, values share memory with one another and with the arguments.
 type run struct {
 	p      api.Prog
+	watch  Watch
 	defs   map[api.ID]*api.Def // the definitions of p, once one has been asked for
 	tasks  []task              // each one is needed by the one before it
 	values []api.Value         // those that tasks have got and still need
@@ -46,6 +47,9 @@ func (r *run) begin(e *api.Expr) {
 		fail(api.ErrFuel)
 	}
 	r.fuel--
+	if r.watch.Node != nil {
+		r.watch.Node(e.ID)
+	}
 	r.tasks = append(r.tasks, task{e: e, from: len(r.values), bound: r.vars.count()})
 }
 
@@ -144,11 +148,14 @@ func (r *run) fold(t *task, element int) *api.Expr {
 // call returns the body of the definition that a call names, and binds its slots to the values of the kids.
 func (r *run) call(t *task) *api.Expr {
 	if r.defs == nil {
-		r.defs = index(r.p)
+		r.defs = Defs(r.p)
 	}
 	d := r.defs[t.e.Ref]
-	if !hasBody(d) {
+	if d == nil || !HasBody(d) {
 		fail(api.ErrNone)
+	}
+	if r.watch.Def != nil {
+		r.watch.Def(d.ID)
 	}
 	args := r.values[t.from:]
 	r.values = r.values[:t.from]

@@ -1,4 +1,4 @@
-package eval
+package steps
 
 import "splicery/api"
 
