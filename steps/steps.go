@@ -1,4 +1,4 @@
-// Package steps evaluates the nodes of expressions step by step, and tells what it asks of a program. It is no layer: packages eval (layer 11, shared/doc/11-eval.md) and trace (layer 12) share it.
+// Package steps evaluates the nodes of expressions step by step, and tells what it asks of a program. It is no layer: packages eval (layer 11, shared/doc/11-eval.md) and trace (layer 12) share it, and others find definitions with it.
 package steps
 
 import (
